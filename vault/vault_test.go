@@ -304,8 +304,9 @@ func TestOpenForm(t *testing.T) {
 		{"no snapshot", list(torn, file("snap", "garbage", ""), file("vow", line(s)+"torn", "")), list(torn, file("snap", "garbage", ""), vowed(s)), 2},
 		{"no snapshot, and no log", append(slices.Clone(gap), file("snap", "", ""), file("snap.new", "x", "")), append(slices.Clone(gap), file("snap", "", "")), 1},
 		{"no log", append(slices.Clone(gap), good, file("snap.new", "x", ""), file("vow", "", line(s)), file("vow.new", "x", "")), append(slices.Clone(gap), good, vowed(s)), 3},
-		{"a log above the base", list(kept(4, l...), good), list(kept(4, l...), good), 0},
-		{"a log above 1 without a snapshot", list(kept(2, l...), vowed(s)), list(kept(2, l...), vowed(s)), 1},
+		{"a log above the base", list(kept(4, l...), good), list(kept(4, l...), good), 1},
+		{"a log above 1 without a snapshot", list(kept(2, l...), vowed(s)), list(kept(2, l...), vowed(s)), 2},
+		{"a loose log above the base", list(file(segment.Name(4), "", part(4, l...)+"torn"), good), list(kept(4, l...), good), 2},
 	} {
 		d := with(t, x.files...)
 		before := d.Steps()

@@ -72,8 +72,8 @@ func (m *model) entries() []api.Entry {
 	return all
 }
 
-// form reports whether the files are those of a log after base.
-func (m *model) form(base uint64) bool {
+// form reports whether the files are those of a log.
+func (m *model) form() bool {
 	l := m.files()
 	n := len(l)
 	if n > 0 && l[n-1].first != l[n-1].named {
@@ -89,7 +89,7 @@ func (m *model) form(base uint64) bool {
 			return false
 		}
 	}
-	return n == 0 || l[0].first <= base+1 || l[n-1].end()-1 < base
+	return true
 }
 
 // open opens the model's disk.
@@ -99,7 +99,7 @@ func (m *model) open(base uint64) api.Errno {
 		return api.ErrDown
 	case base >= highest:
 		return api.ErrArg
-	case !m.form(base):
+	case !m.form():
 		return api.ErrForm
 	}
 	l := m.files()
@@ -122,8 +122,11 @@ func (m *model) open(base uint64) api.Errno {
 		}
 	}
 	m.next = base + 1
-	if len(l) == 0 || m.last() < base {
+	switch {
+	case len(l) == 0 || m.last() < base:
 		return m.reset(base)
+	case l[0].first > base+1:
+		return api.ErrForm
 	}
 	m.safe = m.last()
 	return api.OK

@@ -310,7 +310,7 @@ func TestOpenFound(t *testing.T) {
 	}
 }
 
-// P25.1: ErrForm, with which nothing is changed.
+// P25.1: files that are not those of a log, with which nothing is changed.
 func TestOpenForm(t *testing.T) {
 	l := entries(7)
 	one, two, three := part(1, l[:3]...), part(4, l[3:5]...), part(6, l[5:]...)
@@ -337,13 +337,6 @@ func TestOpenForm(t *testing.T) {
 		{"a head in between", list(kept(1, part(1)), kept(2, part(2, l[1:]...))), 0},
 		{"another name first", list(kept(2, one), kept(4, two)), 0},
 		{"another name in between", list(kept(1, one), kept(5, two), kept(6, three)), 0},
-		{"First above the base", list(kept(4, two), kept(6, three)), 2},
-		{"First above the base 0", list(kept(2, part(2, l[1:3]...))), 0},
-		{"First far above the base", list(kept(highest, part(highest, l...))), 0},
-		{"a head above the base", list(loose(9, part(9))), 7},
-		{"First above the base, with loose bytes", list(kept(4, two), loose(6, three)), 1},
-		{"First above the base, with a torn line", list(kept(4, two), kept(6, three+torn)), 1},
-		{"First above the base, before what is no segment", list(kept(4, two), kept(6, "garbage")), 1},
 	} {
 		d := with(t, x.files...)
 		before := d.Steps()
@@ -354,6 +347,52 @@ func TestOpenForm(t *testing.T) {
 		wantFiles(t, x.what, d, x.files...)
 		if d.Steps() != before {
 			t.Errorf("%s: %d steps", x.what, d.Steps()-before)
+		}
+	}
+}
+
+// P25.1: First above base + 1, which is an error only once the last file is mended.
+func TestOpenLate(t *testing.T) {
+	l := entries(7)
+	two, three := part(4, l[3:5]...), part(6, l[5:]...)
+	torn := lines(8, sized(40))[:20]
+	mended := list(kept(4, two), kept(6, three))
+	for _, x := range []struct {
+		what        string
+		files, left []disk.File
+		base, steps uint64
+	}{
+		{"kept bytes", mended, mended, 2, 1},
+		{"one file", list(kept(2, part(2, l[1:3]...))), list(kept(2, part(2, l[1:3]...))), 0, 1},
+		{"far above", list(kept(highest, part(highest, l...))), list(kept(highest, part(highest, l...))), 0, 1},
+		{"a head", list(loose(9, part(9))), list(kept(9, part(9))), 7, 1},
+		{"a head and a byte", list(loose(9, part(9)+"x")), list(kept(9, part(9))), 7, 2},
+		{"loose bytes", list(kept(4, two), loose(6, three)), mended, 1, 1},
+		{"loose bytes in between", list(loose(4, two), loose(6, three)), list(loose(4, two), kept(6, three)), 1, 1},
+		{"a torn line", list(kept(4, two), kept(6, three+torn)), mended, 1, 2},
+		{"a loose torn line", list(kept(4, two), loose(6, three+torn)), mended, 1, 2},
+		{"no segment last", list(kept(4, two), kept(6, "garbage")), list(kept(4, two)), 1, 2},
+		{"no segment after loose bytes", list(loose(4, two), kept(6, "garbage")), list(kept(4, two)), 1, 2},
+	} {
+		for n := range x.steps + 1 {
+			d := with(t, x.files...)
+			ok(t, "Arm", d.Arm(int(n)))
+			before := d.Steps()
+			want := api.ErrForm
+			if n < x.steps {
+				want = api.ErrDown
+			}
+			if g, e := wal.Open(d, x.base); g != nil || e != want {
+				t.Errorf("%s, %d steps: %v, error %d, want %d", x.what, n, g, int(e), int(want))
+			}
+			if n < x.steps {
+				ok(t, "Boot", d.Boot())
+				continue
+			}
+			wantFiles(t, x.what, d, x.left...)
+			if got := d.Steps() - before; got != x.steps {
+				t.Errorf("%s: %d steps, want %d", x.what, got, x.steps)
+			}
 		}
 	}
 }
